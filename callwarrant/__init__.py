@@ -1,0 +1,1 @@
+"""Callwarrant: methods chosen by all arguments, checked module by module."""

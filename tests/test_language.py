@@ -1,0 +1,124 @@
+"""The rules of the language that a look at the files can tell: sizes, characters, imports, names."""
+
+import ast
+import builtins
+import re
+import unittest
+from pathlib import Path
+
+PACKAGE = Path(__file__).resolve().parent.parent / "callwarrant"
+FILES = sorted(path for path in PACKAGE.rglob("*") if "__pycache__" not in path.parts)
+LIBRARY = {"heapq", "math", "itertools", "collections", "__future__"}
+BUILTINS = set((
+    "len range enumerate zip min max sum abs sorted reversed int str bool bytes list tuple dict set "
+    "frozenset isinstance ord repr any all divmod pow map iter next super Exception ValueError "
+    "TypeError KeyError IndexError LookupError ZeroDivisionError ArithmeticError OverflowError "
+    "RuntimeError NotImplementedError AttributeError StopIteration NotImplemented"
+).split())
+BARRED = set("mro elements open input law version_info with_traceback add_note".split())
+
+
+def trees():
+    return [(path, ast.parse(path.read_text())) for path in FILES]
+
+
+def names_in(tree):
+    """All names of variables, functions, classes, parameters, keywords and attributes."""
+    for node in ast.walk(tree):
+        if isinstance(node, ast.Name):
+            yield node.id
+        elif isinstance(node, ast.Attribute):
+            yield node.attr
+        elif isinstance(node, ast.arg) or isinstance(node, ast.keyword) and node.arg:
+            yield node.arg
+        elif isinstance(node, (ast.FunctionDef, ast.ClassDef, ast.alias)):
+            yield node.name
+
+
+class Language(unittest.TestCase):
+
+    def test_files(self):
+        self.assertLessEqual(len(FILES), 100)
+        for path in FILES:
+            self.assertRegex(path.name, "^[a-z0-9_]+[.]py$")
+            text = path.read_bytes().decode("ascii")
+            self.assertRegex(text, r"\A[ -~\n]*\Z")
+            lines = text.split("\n")
+            self.assertLessEqual(len(lines), 400, path)
+            self.assertLessEqual(max(len(line) for line in lines), 120, path)
+        self.assertIn(PACKAGE / "__init__.py", FILES)
+
+    def test_functions(self):
+        for path, tree in trees():
+            for node in ast.walk(tree):
+                if isinstance(node, ast.FunctionDef):
+                    self.assertLessEqual(node.end_lineno - node.lineno + 1, 40, node.name)
+
+    def test_module_level(self):
+        allowed = (ast.ImportFrom, ast.FunctionDef, ast.ClassDef, ast.Assign, ast.Expr)
+        for path, tree in trees():
+            bound = []
+            for number, node in enumerate(tree.body):
+                self.assertIsInstance(node, allowed, path)
+                if isinstance(node, ast.Expr):
+                    self.assertTrue(number == 0 and isinstance(node.value.value, str), path)
+                elif isinstance(node, ast.Assign):
+                    self.assertEqual(len(node.targets), 1)
+                    bound.append(node.targets[0].id)
+                elif isinstance(node, ast.ImportFrom):
+                    bound.extend(alias.asname or alias.name for alias in node.names)
+                else:
+                    bound.append(node.name)
+            self.assertEqual(len(bound), len(set(bound)), path)
+
+    def test_imports(self):
+        uses = {}
+        for path, tree in trees():
+            uses[path.stem] = set()
+            for node in ast.walk(tree):
+                self.assertNotIsInstance(node, ast.Import, path)
+                if isinstance(node, ast.ImportFrom) and node.module not in LIBRARY:
+                    package, _, file = node.module.partition(".")
+                    self.assertEqual((package, node.level), ("callwarrant", 0))
+                    uses[path.stem].add(file)
+                    source = (PACKAGE / (file + ".py")).read_text()
+                    for alias in node.names:
+                        pattern = "^(def |class )?" + alias.name + "[ (:]"
+                        self.assertTrue(re.search(pattern, source, re.M), alias.name)
+        while uses:
+            ends = [file for file in uses if not uses[file] & set(uses)]
+            self.assertTrue(ends, "files import each other in a circle")
+            for file in ends:
+                del uses[file]
+
+    def test_names(self):
+        for path, tree in trees():
+            defined = {
+                node.name for node in tree.body if isinstance(node, (ast.FunctionDef, ast.ClassDef))}
+            for name in names_in(tree):
+                self.assertNotIn(name, BARRED, path)
+                self.assertRegex(name, "^(_?[A-Za-z][A-Za-z0-9_]*|_|__[a-z]+__)$", path)
+                if hasattr(builtins, name) and not name.startswith("__"):
+                    self.assertIn(name, BUILTINS, path)
+                    self.assertNotIn(name, defined, path)
+
+    def test_values(self):
+        for path, tree in trees():
+            for node in ast.walk(tree):
+                self.assertNotIsInstance(node, (ast.Div, ast.AsyncFunctionDef, ast.Await), path)
+                if isinstance(node, ast.Constant):
+                    self.assertNotIsInstance(node.value, (float, complex), path)
+                    if isinstance(node.value, str):
+                        self.assertNotIn("%", node.value, path)
+
+    def test_interface(self):
+        listed = {
+            "forms": ("is_module", "is_expression"),
+            "reading": ("parse", "parse_expression"),
+            "printing": ("printed", "printed_expression"),
+        }
+        told = {path.stem: tree for path, tree in trees()}
+        for file, names in listed.items():
+            defined = [node.name for node in told[file].body if isinstance(node, ast.FunctionDef)]
+            for name in names:
+                self.assertIn(name, defined)
