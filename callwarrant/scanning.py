@@ -17,8 +17,8 @@ STRANGE = "strange"
 def tokens_of(text):
     """The tokens of the text, as triples (kind, text of the token, position).
 
-    Behind them stands one of the kind END, or, where the first character stands that begins
-    no token, one of the kind STRANGE. No grammar takes the latter.
+    The last is of the kind END. What is no token is one of the kind STRANGE, which no grammar
+    takes.
     """
     tokens = []
     at = 0
@@ -27,10 +27,8 @@ def tokens_of(text):
             at = at + 1
             continue
         stop = end_of_token(text, at)
-        kind = kind_of(text[at:stop])
-        tokens.append((kind, text[at:stop], at))
-        if kind == STRANGE:
-            return tokens
+        token = text[at:stop]
+        tokens.append((kind_of(token), token, at))
         at = stop
     tokens.append((END, "", len(text)))
     return tokens
