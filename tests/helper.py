@@ -1,10 +1,13 @@
 """What the tests share: samples, odd values, and a second account of what the document says.
 
 The second account is made in another way than the package: forms by regular expressions, the
-first token that does not continue a text by an Earley recogniser over the document's grammar.
+first token that does not continue a text by an Earley recogniser over the document's grammar. The
+order of classes is closed step by step over all pairs of names, types are told by exceptions, and
+a module is closed if no call fails in a world that has a class for every set of open classes.
 """
 
 import re
+from itertools import combinations, product
 
 RESERVED = (
     "module uses open sealed abstract class extends generic by gives method new next "
@@ -84,6 +87,15 @@ ODD = (
     ("int", True), ("int", -1), ("int", 65536), ("int", "1"), ("name", "next"), (("int", 1),),
     [["int"], 1], (True, 1), (None,), ("x" * 200000,),
 )
+
+
+def sum_of(many, last):
+    """A sum of so many expressions, an odd number, with this one as its last leaf."""
+    if many == 1:
+        return last
+    half = (many - 1) // 2
+    first = half if half % 2 else half - 1
+    return ("add", sum_of(first, ONE), sum_of(many - 1 - first, last))
 
 
 def as_lists(value):
@@ -412,3 +424,459 @@ def some_module(source):
         return (name() + "." + name(), row(1, 3, pair), some_fitting_expression(source))
 
     return (name(), row(0, 4, name), row(0, 6, one_class), row(0, 3, generic), row(0, 8, method))
+
+
+# What the document says of worlds, orders, calls and closed modules.
+
+BASE = (
+    "base", (),
+    (("Any", "open", True, (), ()), ("Int", "sealed", False, ("base.Any",), ())), (), (),
+)
+
+
+class Broken(Exception):
+    """A rule is broken, or an expression has no type."""
+
+
+def need(truth, word="body"):
+    if not truth:
+        raise Broken(word)
+
+
+def differ(words):
+    return all(one != other for one, other in combinations(words, 2))
+
+
+def told_world(value):
+    """Whether value is a world."""
+    if type(value) not in (list, tuple) or len(value) > 12 or not all(map(told_module, value)):
+        return False
+    uses = {module[0]: list(module[1]) for module in value}
+    if len(uses) < len(value) or "base" in uses:
+        return False
+    if not all(differ(named) and set(named) <= set(uses) for named in uses.values()):
+        return False
+    # Take away what uses nothing that is left, until nothing is left or all that is goes round.
+    while uses:
+        free = [name for name in uses if not set(uses[name]) & set(uses)]
+        if not free:
+            return False
+        for name in free:
+            del uses[name]
+    return True
+
+
+class Told:
+    """What the document says of a world."""
+
+    def __init__(self, world):
+        self.world = {module[0]: module for module in world}
+        self.parts = {**self.world, "base": BASE}
+        self.classes, self.generics, self.methods = {}, {}, {}
+        for name, (_, _, classes, generics, methods) in sorted(self.parts.items()):
+            for told in reversed(classes):
+                self.classes[name + "." + told[0]] = told
+            for told in reversed(generics):
+                self.generics[name + "." + told[0]] = told
+            for number, told in enumerate(methods):
+                self.methods[name, number] = told
+        self.order = self.closed_order()
+
+    def closed_order(self):
+        """All pairs of which one class is under the other."""
+        ups = {name: {name} | set(told[3]) for name, told in self.classes.items()}
+        grown = True
+        while grown:
+            grown = False
+            for name in ups:
+                more = set().union(*(ups.get(one, {one}) for one in ups[name]))
+                if more != ups[name]:
+                    ups[name], grown = more, True
+        return {(name, one) for name in ups for one in ups[name]}
+
+    def under(self, one, other):
+        return one == other or (one, other) in self.order
+
+    def view(self, name):
+        if name == "base":
+            return {"base"}
+        return {"base", name}.union(*(self.view(used) for used in self.world[name][1]))
+
+    def above(self, one):
+        return tuple(sorted({one} | {b for a, b in self.order if a == one}))
+
+    def concrete(self, one):
+        return tuple(sorted(
+            name for name, told in self.classes.items() if not told[2] and self.under(name, one)))
+
+    def fields(self, one):
+        """The triples (class, field, class of the field) of the objects of a class."""
+        rows = []
+        for name in self.above(one):
+            for field, told in self.classes.get(name, BASE[2][0])[4]:
+                if (name, field) not in [row[:2] for row in rows]:
+                    rows.append((name, field, told))
+        return tuple(rows)
+
+    # Lawful modules.
+
+    def fault(self, name):
+        _, _, classes, generics, methods = self.world[name]
+        for parts, rules in (
+            (classes, (self.rule_class, self.rule_parent, self.rule_field)),
+            (generics, (self.rule_generic,)), (methods, (self.rule_method, self.rule_body)),
+        ):
+            for number, told in enumerate(parts):
+                for rule in rules:
+                    try:
+                        rule(name, parts[:number], *told)
+                    except Broken:
+                        return rule.__name__[5:], number
+        return None
+
+    def lawful(self):
+        return all(self.fault(name) is None for name in self.world)
+
+    def is_known(self, home, name, names):
+        return name in names and name.split(".")[0] in self.view(home)
+
+    def know_classes(self, home, names):
+        for name in names:
+            need(self.is_known(home, name, self.classes))
+
+    def rule_class(self, home, before, word, kind, abstract, parents, fields):
+        need(word not in [told[0] for told in before])
+
+    def rule_parent(self, home, before, word, kind, abstract, parents, fields):
+        need(differ(parents))
+        self.know_classes(home, parents)
+        for parent in parents:
+            module, parent_word = parent.split(".")
+            need(module == home or self.classes[parent][1] == "open")
+            need(module != home or parent_word in [told[0] for told in before])
+
+    def rule_field(self, home, before, word, kind, abstract, parents, fields):
+        need(differ([field for field, _ in fields]))
+        self.know_classes(home, [told for _, told in fields])
+
+    def rule_generic(self, home, before, name, takes, by, gives):
+        need(name not in [told[0] for told in before])
+        self.know_classes(home, [*takes, gives])
+
+    def rule_method(self, home, before, generic, params, body):
+        need(self.is_known(home, generic, self.generics))
+        _, takes, by, _ = self.generics[generic]
+        need(len(takes) == len(params) and differ([name for name, _ in params]))
+        classes = [told for _, told in params]
+        self.know_classes(home, classes)
+        need(all(self.under(one, take) for one, take in zip(classes, takes)))
+        need(generic.startswith(home + ".") or classes[by - 1].startswith(home + "."))
+        for told in before:
+            need((told[0], [one for _, one in told[1]]) != (generic, classes))
+
+    def rule_body(self, home, before, generic, params, body):
+        gives = self.generics[generic][3]
+        found = self.type(home, gives, [tuple(param) for param in params], body)
+        need(self.under(found, gives))
+
+    def type(self, home, gives, names, expression):
+        """The type of an expression; of several pairs of names the last one counts."""
+        def below(part, more=()):
+            return self.type(home, gives, names + list(more), part)
+
+        def fit(parts, classes):
+            need(len(parts) == len(classes))
+            for part, told in zip(parts, classes):
+                need(self.under(below(part), told))
+
+        word, *rest = expression
+        if word == "int":
+            return "base.Int"
+        if word == "next":
+            need(gives is not None)
+            return gives
+        if word == "name":
+            need(rest[0] in dict(names))
+            return dict(names)[rest[0]]
+        if word == "new":
+            self.know_classes(home, rest[:1])
+            need(not self.classes[rest[0]][2] and rest[0] != "base.Int")
+            fit(rest[1], [told for _, _, told in self.fields(rest[0])])
+            return rest[0]
+        if word == "field":
+            self.know_classes(home, rest[1:2])
+            fields = [told for name, told in self.classes[rest[1]][4] if name == rest[2]]
+            need(fields)
+            fit(rest[:1], [rest[1]])
+            return fields[0]
+        if word == "call":
+            need(self.is_known(home, rest[0], self.generics))
+            _, takes, _, told = self.generics[rest[0]]
+            fit(rest[1], takes)
+            return told
+        if word == "if":
+            need(below(rest[0]) == "base.Int")
+            one, other = below(rest[1]), below(rest[2])
+            need(self.under(one, other) or self.under(other, one))
+            return other if self.under(one, other) else one
+        if word == "let":
+            return below(rest[2], [(rest[0], below(rest[1]))])
+        need(below(rest[0]) == below(rest[1]) == "base.Int")
+        return "base.Int"
+
+    # Calls.
+
+    def calls(self, generic):
+        return product(*map(self.concrete, self.generics[generic][1]))
+
+    def methods_of(self, generic):
+        return tuple(
+            (at, tuple(told for _, told in method[1]))
+            for at, method in sorted(self.methods.items()) if method[0] == generic)
+
+    def applicable(self, generic, classes):
+        return tuple(
+            at for at, told in self.methods_of(generic)
+            if all(self.under(one, other) for one, other in zip(classes, told)))
+
+    def near(self, one, other):
+        return all(
+            self.under(a[1], b[1]) for a, b in zip(self.methods[one][1], self.methods[other][1]))
+
+    def best_of(self, methods):
+        """The best one of the methods, or the word of NoBest."""
+        found = [one for one in methods if all(self.near(one, other) for other in methods)]
+        return found[0] if found else "many" if methods else "none"
+
+    def chain_of(self, methods):
+        """The chain that begins with the best one of the methods, or the word of NoBest."""
+        last = self.best_of(methods)
+        if type(last) is str or not stands_next(self.methods[last][2]):
+            return last if type(last) is str else (last,)
+        rest = self.chain_of([one for one in methods if one != last and self.near(last, one)])
+        return rest if type(rest) is str else (last,) + rest
+
+    def best(self, generic, classes):
+        return self.best_of(self.applicable(generic, classes))
+
+    def chain(self, generic, classes):
+        return self.chain_of(self.applicable(generic, classes))
+
+    def answers(self, generic, classes):
+        module = generic.split(".")[0]
+        owner = classes[self.generics[generic][2] - 1].split(".")[0]
+        return owner if module in self.view(owner) else module
+
+    def bad_calls(self, name):
+        """The calls, as pairs of generic and classes, that the module answers for, and not good."""
+        return [
+            (generic, classes) for generic in sorted(self.generics)
+            for classes in self.calls(generic)
+            if self.answers(generic, classes) == name and type(self.chain(generic, classes)) is str]
+
+
+def stands_next(expression):
+    return "'next'" in str(expression)
+
+
+def view_of(world, name):
+    """The modules of the view of a module, without base."""
+    names = Told(world).view(name)
+    return tuple(module for module in world if module[0] in names)
+
+
+def sets_of(told, names):
+    """All sets of one or more of the classes, of which none is under another one."""
+    return [
+        row for many in range(1, len(names) + 1) for row in combinations(names, many)
+        if not any(told.under(one, other) for one in row for other in row if one != other)]
+
+
+def strange_world(world, name):
+    """The view of a module, and modules in which every set of its open classes has a class.
+
+    Those in modules knaa, knab .. know the module; those in modules unaa, unab .. do not, and
+    there the sets are of classes of other modules. Sets with classes under others are left out, as
+    they have the sights of smaller ones.
+    """
+    viewed = view_of(world, name)
+    told = Told(viewed)
+    opens = [one for one in sorted(told.classes) if told.classes[one][1] == "open"]
+    others = [one for one in opens if not one.startswith(name + ".")]
+    used = tuple(sorted({one.split(".")[0] for one in others} - {"base"}))
+    modules = list(viewed)
+    for start, names, uses in (("kn", opens, (name,)), ("un", others, used)):
+        sets = sets_of(told, names)
+        for at in range(0, len(sets), 6):
+            classes = [
+                (word, "sealed", False, row, ()) for word, row in zip("ABCDEF", sets[at:at + 6])]
+            letters = "abcdefghijklmnopqrstuvwxyz"
+            end = letters[at // 6 // 26] + letters[at // 6 - at // 6 // 26 * 26]
+            modules.append((start + end, uses, tuple(classes), (), ()))
+    return tuple(modules)
+
+
+def told_closed(world, name):
+    """Whether the module is closed, by a trial of all sets of open classes."""
+    return not Told(strange_world(world, name)).bad_calls(name)
+
+
+# Lawful worlds of all kinds, by a random source too.
+
+CLASS_WORDS = ("A", "B", "C", "D", "E", "F")
+FIELDS = ("f", "g", "h")
+PARAMS = ("x", "y", "z")
+
+
+def some_different(source, things, least, most):
+    """A tuple of different ones of the things."""
+    most = min(most, len(things))
+    return tuple(source.sample(list(things), source.randint(min(least, most), most)))
+
+
+def lawful_world(source, names, classes, generics, methods, levels=0, takes=3):
+    """A lawful world of modules of these names, each with at most so many parts.
+
+    Bodies have at most so many levels; with 0 they are an integer or have a next in them.
+    """
+    world = []
+    for name in names:
+        uses = some_different(source, [module[0] for module in world], 0, 4)
+        world.append(lawful_module(source, world, (name, uses), classes, generics, methods, levels, takes))
+    source.shuffle(world)
+    return tuple(world)
+
+
+def lawful_module(source, world, head, classes, generics, methods, levels, takes):
+    """A lawful module for the world, of at most so many parts; what is not lawful is left out."""
+    rows = ([], [], [])
+
+    def made():
+        return head + tuple(tuple(row) for row in rows)
+
+    def add(row, part):
+        row.append(part)
+        if len(row) > 8 or Told(world + [made()]).fault(head[0]) is not None:
+            row.pop()
+
+    for row, many, make in (
+        (rows[0], classes, lawful_class), (rows[1], generics, lawful_generic), (rows[2], methods, lawful_method),
+    ):
+        for _ in range(many):
+            told = Told(world + [made()])
+            part = make(source, told, head[0], levels if make == lawful_method else takes)
+            if part is not None:
+                add(row, part)
+        if row is rows[1]:
+            # Without methods for all calls hardly a module would be closed.
+            for name, takes, _, _ in list(row):
+                if source.random() < 0.7:
+                    add(rows[2], (head[0] + "." + name, tuple(zip(PARAMS, takes)), ("int", 0)))
+    return made()
+
+
+def known_classes(told, home):
+    view = told.view(home)
+    return [name for name in sorted(told.classes) if name.split(".")[0] in view]
+
+
+def lawful_class(source, told, home, _):
+    known = known_classes(told, home)
+    parents = [
+        one for one in known
+        if one.startswith(home + ".") or told.classes[one][1] == "open" and one != "base.Any"]
+    parents = some_different(source, parents, 0, source.choice((1, 1, 2, 3))) or ("base.Any",)
+    fields = ()
+    if source.random() < 0.2:
+        fields = tuple((name, source.choice(known)) for name in some_different(source, FIELDS, 1, 3))
+    return (source.choice(CLASS_WORDS), source.choice(("open", "open", "sealed")), source.random() < 0.25,
+            parents, fields)
+
+
+def lawful_generic(source, told, home, takes):
+    known = known_classes(told, home)
+    takes = tuple(source.choice(known) for _ in range(source.randint(1, takes)))
+    gives = source.choice(("base.Int", "base.Int", "base.Any", source.choice(known)))
+    return (source.choice("pqr"), takes, source.randint(1, len(takes)), gives)
+
+
+def lawful_method(source, told, home, levels):
+    view = told.view(home)
+    known = [name for name in sorted(told.generics) if name.split(".")[0] in view]
+    if not known:
+        return None
+    generic = source.choice(known)
+    _, takes, by, gives = told.generics[generic]
+    classes = [
+        [one for one in known_classes(told, home) if told.under(one, take)] for take in takes]
+    if not generic.startswith(home + "."):
+        classes[by - 1] = [one for one in classes[by - 1] if one.startswith(home + ".")]
+    if not all(classes):
+        return None
+    params = tuple((name, source.choice(row)) for name, row in zip(PARAMS, classes))
+    if levels == 0:
+        return (generic, params, short_body(source, gives))
+    for _ in range(5):
+        body = lawful_body(source, told, home, gives, dict(params), gives, levels)
+        if body is not None and told_expression(body):
+            return (generic, params, body)
+    return None
+
+
+def short_body(source, gives):
+    """A body that is an integer, where it may be one, or in which next stands."""
+    bodies = [("int", 1)] * 3 + [("next",), ("add", ("next",), ("add", ("int", 1), ("next",)))]
+    if gives not in ("base.Int", "base.Any"):
+        bodies = [("next",)]
+    elif gives == "base.Any":
+        bodies = [("int", 1)] * 2 + [("next",)]
+    return source.choice(bodies)
+
+
+def lawful_body(source, told, home, gives, names, due, levels):
+    """An expression of a type under the due one; None if none is found."""
+    def below(one, more=None):
+        return lawful_body(source, told, home, gives, more or names, one, levels - 1)
+
+    makes = [("name", name) for name, one in sorted(names.items()) if told.under(one, due)]
+    if told.under("base.Int", due):
+        makes.append(("int", source.randrange(9)))
+    if told.under(gives, due):
+        makes.append(("next",))
+    if levels > 1:
+        view = told.view(home)
+        makes.extend([("if",), ("let",)])
+        makes.extend(
+            ("new", one) for one in known_classes(told, home)
+            if not told.classes[one][2] and one != "base.Int" and told.under(one, due))
+        makes.extend(
+            ("field", name, field) for name in known_classes(told, home)
+            for field, one in told.classes[name][4] if told.under(one, due))
+        makes.extend(
+            ("call", name) for name, one in sorted(told.generics.items())
+            if name.split(".")[0] in view and told.under(one[3], due))
+        if told.under("base.Int", due):
+            makes.extend([("add",), ("sub",), ("mul",)])
+    if not makes:
+        return None
+    made = source.choice(makes)
+    word = made[0]
+    if word in ("name", "int", "next"):
+        return made
+    if word == "new":
+        parts = tuple(below(one) for _, _, one in told.fields(made[1]))
+        return None if None in parts else made + (parts,)
+    if word == "call":
+        parts = tuple(below(one) for one in told.generics[made[1]][1])
+        return None if None in parts else made + (parts,)
+    if word == "field":
+        parts = ("field", below(made[1])) + made[1:]
+    elif word == "if":
+        parts = ("if", below("base.Int"), below(due), below(due))
+    elif word == "let":
+        one = source.choice(known_classes(told, home))
+        name = source.choice(PARAMS + ("w",))
+        parts = ("let", name, below(one), below(due, {**names, name: one}))
+    else:
+        parts = (word, below("base.Int"), below("base.Int"))
+    return None if None in parts else parts

@@ -15,6 +15,16 @@ BUILTINS = set((
     "TypeError KeyError IndexError LookupError ZeroDivisionError ArithmeticError OverflowError "
     "RuntimeError NotImplementedError AttributeError StopIteration NotImplemented"
 ).split())
+METHODS = set((
+    "append clear copy count endswith extend find get index insert isalnum isalpha isdigit islower "
+    "isspace isupper items join keys ljust lower lstrip partition pop remove replace reverse rfind "
+    "rjust rpartition rsplit rstrip setdefault split splitlines startswith strip update upper values "
+    "zfill bit_length add discard"
+).split())
+WORDS = set((
+    "type typing enum Enum Flag Generic Protocol ABC ABCMeta namedtuple NamedTuple TypedDict "
+    "abstractmethod dataclass overload contextmanager"
+).split())
 BARRED = set("mro elements open input law version_info with_traceback add_note".split())
 
 
@@ -111,11 +121,50 @@ class Language(unittest.TestCase):
                     if isinstance(node.value, str):
                         self.assertNotIn("%", node.value, path)
 
+    def test_methods(self):
+        own = {
+            node.name for _, tree in trees() for found in ast.walk(tree)
+            if isinstance(found, ast.ClassDef) for node in found.body
+            if isinstance(node, ast.FunctionDef)}
+        assigned = {
+            node.attr for _, tree in trees() for node in ast.walk(tree)
+            if isinstance(node, ast.Attribute) and isinstance(node.ctx, ast.Store)}
+        self.assertEqual(own & assigned, set())
+        self.assertEqual((own | assigned) & METHODS, set())
+        for path, tree in trees():
+            called = {
+                node.func for node in ast.walk(tree)
+                if isinstance(node, ast.Call) and isinstance(node.func, ast.Attribute)}
+            for node in ast.walk(tree):
+                if isinstance(node, ast.Attribute):
+                    self.assertIn(node.attr, own | METHODS if node in called else assigned, path)
+
+    def test_sets(self):
+        # A set is only measured or sorted where it is made.
+        for path, tree in trees():
+            fitting = [
+                argument for node in ast.walk(tree)
+                if isinstance(node, ast.Call) and isinstance(node.func, ast.Name)
+                and node.func.id in ("len", "sorted") for argument in node.args]
+            for node in ast.walk(tree):
+                is_set = isinstance(node, (ast.Set, ast.SetComp)) or isinstance(node, ast.Call) and (
+                    isinstance(node.func, ast.Name) and node.func.id in ("set", "frozenset"))
+                self.assertTrue(not is_set or node in fitting, (path, node.lineno if is_set else 0))
+                self.assertNotIsInstance(node, (ast.GeneratorExp, ast.Yield, ast.Global, ast.With))
+
+    def test_words(self):
+        for path, tree in trees():
+            self.assertFalse(WORDS & set(names_in(tree)), path)
+
     def test_interface(self):
         listed = {
             "forms": ("is_module", "is_expression"),
             "reading": ("parse", "parse_expression"),
             "printing": ("printed", "printed_expression"),
+            "worlds": ("is_world", "view", "fault", "is_lawful"),
+            "orders": ("under", "above", "fields_of", "class_names", "concrete"),
+            "calls": ("methods_of", "applicable", "best", "chain"),
+            "closing": ("answers", "is_closed", "breach"),
         }
         told = {path.stem: tree for path, tree in trees()}
         for file, names in listed.items():
