@@ -65,8 +65,7 @@ def bad_call(atlas, name):
     anywhere = any_place(atlas)
     own = own_place(atlas, name)
     others = other_place(atlas, name)
-    for generic_name in sorted(atlas.generics):
-        generic = atlas.generics[generic_name]
+    for generic in atlas.generics.values():
         owners = [own, others] if generic.module == name else [own]
         for owner in owners:
             places = [anywhere for _ in generic.takes]

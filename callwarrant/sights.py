@@ -29,12 +29,12 @@ class Place:
 
 def any_place(atlas):
     """The place where all classes may stand."""
-    return Place(atlas, sorted(atlas.classes), True)
+    return Place(atlas, list(atlas.classes), True)
 
 
 def own_place(atlas, module):
     """The place where the classes of the module alone may stand."""
-    names = [one for one in sorted(atlas.classes) if atlas.classes[one].module == module]
+    names = [one for one in atlas.classes if atlas.classes[one].module == module]
     return Place(atlas, names, False)
 
 
@@ -43,7 +43,7 @@ def other_place(atlas, module):
 
     The module is the one whose view the atlas tells, so no other one there knows it.
     """
-    names = [one for one in sorted(atlas.classes) if atlas.classes[one].module != module]
+    names = [one for one in atlas.classes if atlas.classes[one].module != module]
     return Place(atlas, names, True)
 
 
