@@ -14,31 +14,25 @@ A smaller sight makes fewer methods applicable. So if any call is not good, ther
 the least sights in which the takes, or the classes of two such methods, are seen.
 """
 
-from callwarrant.choosing import has_next, is_as_near
+from callwarrant.ranks import Ranks, as_bits
 from callwarrant.sights import least_sights, lowest
 
 
 class Case:
-    """The calls of a generic whose classes stand at these places, one for each position.
-
-    Sets of methods are kept as integers: method number k is in the set if bit k is set.
-    """
+    """The calls of a generic whose classes stand at these places, one for each position."""
 
     def __init__(self, atlas, generic, places):
         self.atlas = atlas
         self.takes = generic.takes
         self.places = places
-        self.methods = atlas.methods.get(generic.name, [])
-        self.ends = as_bits([not has_next(method.body) for method in self.methods])
-        self.nearer = [
-            as_bits([is_as_near(atlas, other, method) for other in self.methods])
-            for method in self.methods
-        ]
+        self.ranks = Ranks(atlas, generic)
+        self.methods = self.ranks.methods
+        self.nearer = self.ranks.nearer
         self._rows = {}
 
     def bad_sights(self):
         """The sights of a call that is not good, one for each position; None if all are good."""
-        found = self.sights_without([(take,) for take in self.takes], self.ends)
+        found = self.sights_without([(take,) for take in self.takes], self.ranks.ends)
         for second in range(len(self.methods)):
             for first in range(second):
                 if found is None and not self.are_comparable(first, second):
@@ -55,7 +49,8 @@ class Case:
             tuple(lowest(self.atlas, pair))
             for pair in zip(self.methods[first].classes, self.methods[second].classes)
         ]
-        return self.sights_without(needs, self.ends & self.nearer[first] & self.nearer[second])
+        barred = self.ranks.ends & self.nearer[first] & self.nearer[second]
+        return self.sights_without(needs, barred)
 
     def sights_without(self, needs, barred):
         """Sights that see the needs of each position, so that no barred method is applicable.
@@ -82,12 +77,3 @@ class Case:
     def admitted(self, position, sight):
         """The methods whose class at the position is seen."""
         return as_bits([method.classes[position] in sight.seen for method in self.methods])
-
-
-def as_bits(truths):
-    """The integer whose bit k tells whether the truth number k holds."""
-    bits = 0
-    for number, truth in enumerate(truths):
-        if truth:
-            bits = bits | 1 << number
-    return bits

@@ -5,13 +5,11 @@ from callwarrant.cases import Case
 from callwarrant.choosing import asked_generic, check_call
 from callwarrant.errors import BadValue
 from callwarrant.sights import any_place, other_place, own_place
-from callwarrant.words import LOWER
+from callwarrant.strangers import free_names, strange_call
 from callwarrant.worlds import check_module, lawful_atlas
 
 # The most modules, besides base, of a view that is looked at.
 MOST_VIEWED = 6
-# The words of the classes that a breach declares, one for each position.
-STRANGE_WORDS = ("A", "B", "C")
 
 
 def answers(world, generic, classes):
@@ -51,6 +49,11 @@ def viewed_atlas(world, name):
     """The atlas of the view of a module that is asked about alone; BadValue, NoModule."""
     atlas = lawful_atlas(world)
     check_module(atlas, name)
+    return viewed_part(atlas, name)
+
+
+def viewed_part(atlas, name):
+    """The atlas of the view of a module of the atlas; BadValue if it is not looked at."""
     viewed = atlas.part(atlas.view(name))
     if len(viewed.modules) > MOST_VIEWED:
         raise BadValue(1)
@@ -82,20 +85,14 @@ def strange_modules(atlas, name, owner_at, sights):
     With them the classes of all sights, one for each position. The owner class is declared in a
     module that does not know the module of this name, the others in one that does.
     """
-    stranger, follower = [one for one in LOWER if one not in atlas.modules][:2]
-    declared = {stranger: [], follower: []}
-    classes = []
-    for position, sight in enumerate(sights):
-        if sight.name is not None:
-            classes.append(sight.name)
-            continue
-        home = stranger if position == owner_at else follower
-        word = STRANGE_WORDS[position]
-        declared[home].append((word, "sealed", False, sight.parents, ()))
-        classes.append(home + "." + word)
+    stranger, follower = free_names(atlas, 2)
+    homes = [stranger if position == owner_at else follower for position in range(len(sights))]
+    classes, declared = strange_call(sights, homes)
     uses = {stranger: uses_of(atlas, sights[owner_at].parents), follower: (name,)}
-    modules = [(one, uses[one], tuple(rows), (), ()) for one, rows in declared.items() if rows]
-    return (tuple(modules), tuple(classes))
+    modules = [
+        (home, named, declared[home], (), ()) for home, named in uses.items() if declared.get(home)
+    ]
+    return (tuple(modules), classes)
 
 
 def uses_of(atlas, parents):

@@ -121,6 +121,8 @@ def has_form(value):
 
 def is_member(kind, value):
     """Whether value can be a member of this kind in an expression, whatever its parts are."""
+    if kind == "part":
+        return True
     if kind == "number":
         return is_integer(value, 0, LARGEST)
     if kind == "name":
@@ -131,9 +133,7 @@ def is_member(kind, value):
         return is_generic_name(value)
     if kind == "values":
         return is_sequence(value, 0, MOST_VALUES)
-    if kind == "arguments":
-        return is_sequence(value, 1, MOST_TAKES)
-    return True
+    return is_sequence(value, 1, MOST_TAKES)
 
 
 def parts_of(expression):
@@ -145,3 +145,18 @@ def parts_of(expression):
         if kind in ("values", "arguments"):
             parts.extend(member)
     return parts
+
+
+def with_parts(expression, parts):
+    """The expression, as a tuple, with these parts in place of its own."""
+    members = [expression[0]]
+    at = 0
+    for kind, member in zip(FORMS[expression[0]], expression[1:]):
+        if kind == "part":
+            members.append(parts[at])
+            at = at + 1
+        elif kind in ("values", "arguments"):
+            members.append(tuple(parts))
+        else:
+            members.append(member)
+    return tuple(members)

@@ -1,6 +1,8 @@
 """The types of expressions."""
 
-from callwarrant.atlas import INT
+from callwarrant.atlas import BASE, INT
+from callwarrant.errors import BadValue
+from callwarrant.forms import is_expression
 
 
 class Scope:
@@ -30,6 +32,21 @@ def type_in(scope, expression, names):
     """The type of an expression where names maps names to their types; None if it has none."""
     rule = RULES[expression[0]]
     return rule(scope, expression, names)
+
+
+def asked_type(atlas, expression, at):
+    """The type of an expression by itself, where all modules of the atlas are known.
+
+    BadValue(at) for what is no expression or has none.
+    """
+    if not is_expression(expression):
+        raise BadValue(at)
+    known = {name: True for name in atlas.modules}
+    known[BASE] = True
+    found = type_in(Scope(atlas, known, None), expression, {})
+    if found is None:
+        raise BadValue(at)
+    return found
 
 
 def int_type(scope, expression, names):

@@ -22,7 +22,7 @@ def is_sequence(value, least, most):
 
 def are_lower(text):
     """Whether all characters of the text are lowercase letters."""
-    return all([letter in LOWER for letter in text])
+    return text.strip(LOWER) == ""
 
 
 def is_name(value):
@@ -53,3 +53,10 @@ def is_generic_name(value):
         return False
     module, _, name = value.partition(".")
     return is_name(module) and is_name(name)
+
+
+def plain(value):
+    """The value with tuples in place of lists, at every level."""
+    if isinstance(value, (list, tuple)):
+        return tuple([plain(one) for one in value])
+    return value

@@ -4,8 +4,12 @@ from callwarrant.atlas import BASE, Atlas, reached
 from callwarrant.errors import BadValue, NoModule
 from callwarrant.faults import are_different, first_fault
 from callwarrant.forms import are_all, is_module
+from callwarrant.words import is_sequence
 
 MOST_MODULES = 12
+# The text of the world that was found lawful last. Most rows of calls ask about one world; a text
+# tells 1 from True, and does not change where a list changes that was passed.
+LAST_LAWFUL = ""
 
 
 def is_world(value):
@@ -37,7 +41,22 @@ def fault(world, name):
 
 def is_lawful(value):
     """Whether value is a lawful world."""
-    return is_world(value) and keeps_rules(Atlas(value))
+    global LAST_LAWFUL
+    # What is looked at no further may have a text that is too great to be made.
+    if not is_row_of_fives(value):
+        return False
+    text = repr(value)
+    if text == LAST_LAWFUL:
+        return True
+    if not is_world(value) or not keeps_rules(Atlas(value)):
+        return False
+    LAST_LAWFUL = text
+    return True
+
+
+def is_row_of_fives(value):
+    """Whether value has as many members as a world may have, each with as many as a module."""
+    return are_all(value, 0, MOST_MODULES, lambda one: is_sequence(one, 5, 5))
 
 
 def can_use(name, uses):
@@ -65,10 +84,9 @@ def atlas_of(world):
 
 def lawful_atlas(world):
     """The atlas of a lawful world; BadValue."""
-    atlas = atlas_of(world)
-    if not keeps_rules(atlas):
+    if not is_lawful(world):
         raise BadValue(0)
-    return atlas
+    return Atlas(world)
 
 
 def check_module(atlas, name):

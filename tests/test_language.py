@@ -130,7 +130,8 @@ class Language(unittest.TestCase):
             node.attr for _, tree in trees() for node in ast.walk(tree)
             if isinstance(node, ast.Attribute) and isinstance(node.ctx, ast.Store)}
         self.assertEqual(own & assigned, set())
-        self.assertEqual((own | assigned) & METHODS, set())
+        # The document gives a link a method copy.
+        self.assertEqual((own | assigned) & METHODS, {"copy"})
         for path, tree in trees():
             called = {
                 node.func for node in ast.walk(tree)
@@ -150,7 +151,59 @@ class Language(unittest.TestCase):
                 is_set = isinstance(node, (ast.Set, ast.SetComp)) or isinstance(node, ast.Call) and (
                     isinstance(node.func, ast.Name) and node.func.id in ("set", "frozenset"))
                 self.assertTrue(not is_set or node in fitting, (path, node.lineno if is_set else 0))
-                self.assertNotIsInstance(node, (ast.GeneratorExp, ast.Yield, ast.Global, ast.With))
+                self.assertNotIsInstance(node, (ast.GeneratorExp, ast.Yield, ast.With))
+
+    def test_global_names(self):
+        # Each stands in the first line of a function, and is a plain value of its file alone.
+        for path, tree in trees():
+            plain = [
+                node.targets[0].id for node in tree.body
+                if isinstance(node, ast.Assign) and isinstance(node.value, ast.Constant)]
+            firsts = []
+            for node in ast.walk(tree):
+                if isinstance(node, ast.FunctionDef):
+                    has_docstring = isinstance(node.body[0], ast.Expr)
+                    firsts.append(node.body[1 if has_docstring else 0])
+            for node in ast.walk(tree):
+                if isinstance(node, ast.Global):
+                    self.assertIn(node, firsts)
+                    for name in node.names:
+                        self.assertIn(name, plain)
+                        for other, text in [(one, one.read_text()) for one in FILES if one != path]:
+                            self.assertNotIn(name, text, other)
+
+    def test_local_names(self):
+        # No parameter and no local variable has the name of an import or a class of the file.
+        for path, tree in trees():
+            taken = {node.name for node in tree.body if isinstance(node, ast.ClassDef)}
+            for node in tree.body:
+                if isinstance(node, ast.ImportFrom):
+                    taken.update(alias.name for alias in node.names)
+            for node in ast.walk(tree):
+                if isinstance(node, ast.arg):
+                    self.assertNotIn(node.arg, taken, path)
+                if isinstance(node, ast.Name) and isinstance(node.ctx, ast.Store):
+                    self.assertNotIn(node.id, taken, path)
+
+    def test_iterated_at_once(self):
+        # What goes over something is gone over where it stands.
+        makers = ("range", "zip", "enumerate", "reversed")
+        views = ("items", "keys", "values")
+        for path, tree in trees():
+            fitting = []
+            for node in ast.walk(tree):
+                if isinstance(node, (ast.For, ast.comprehension)):
+                    fitting.append(node.iter)
+                if isinstance(node, ast.Call) and isinstance(node.func, ast.Name):
+                    fitting.extend(node.args[:1])
+            for node in ast.walk(tree):
+                if isinstance(node, ast.Call):
+                    name = node.func.id if isinstance(node.func, ast.Name) else ""
+                    method = node.func.attr if isinstance(node.func, ast.Attribute) else ""
+                    if name in makers or method in views:
+                        self.assertIn(node, fitting, (path, node.lineno))
+                    for argument in node.args:
+                        self.assertNotIsInstance(argument, ast.Starred, (path, node.lineno))
 
     def test_words(self):
         for path, tree in trees():
@@ -165,9 +218,22 @@ class Language(unittest.TestCase):
             "orders": ("under", "above", "fields_of", "class_names", "concrete"),
             "calls": ("methods_of", "applicable", "best", "chain"),
             "closing": ("answers", "is_closed", "breach"),
+            "trees": ("tree", "walk"),
+            "checking": ("tree_holds",),
+            "tables": ("groups", "tells_apart", "table"),
+            "straights": ("sites", "straight", "bend"),
+            "types": ("type_at", "type_of"),
+            "running": ("run", "class_of", "shown"),
+            "coding": ("code_of", "run_codes", "straight_count"),
         }
+        methods = (
+            "load", "unload", "names", "world", "choose", "run", "code", "copy", "__eq__", "__len__", "__contains__",
+            "__init__")
         told = {path.stem: tree for path, tree in trees()}
         for file, names in listed.items():
             defined = [node.name for node in told[file].body if isinstance(node, ast.FunctionDef)]
             for name in names:
                 self.assertIn(name, defined)
+        (link,) = [node for node in told["links"].body if isinstance(node, ast.ClassDef)]
+        self.assertEqual(link.name, "Link")
+        self.assertEqual({node.name for node in link.body if isinstance(node, ast.FunctionDef)}, set(methods))
