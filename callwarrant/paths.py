@@ -18,7 +18,7 @@ class Spot:
         self.path = path
         self.expression = expression
 
-    def told(self):
+    def type_name(self):
         """The type of the expression."""
         return type_in(self.scope, self.expression, self.bound)
 
@@ -29,7 +29,7 @@ class Spot:
             names = self.bound
             if self.expression[0] == "let" and number == 1:
                 names = {name: told for name, told in names.items()}
-                names[self.expression[1]] = spots[0].told()
+                names[self.expression[1]] = spots[0].type_name()
             spots.append(Spot(self.scope, names, self.path + (number,), part))
         return spots
 

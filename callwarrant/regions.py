@@ -47,8 +47,9 @@ class Family:
     """
 
     def __init__(self, concrete, extended, due):
+        can_join = joined(extended)
         self.concrete = concrete
-        self.extended = extended if all([joined(extended) & bit for bit in due]) else []
+        self.extended = extended if all([can_join & bit for bit in due]) else []
         self.due = due
         # The bits that some sight has, and those that all sights have.
         self.ever = joined(self.concrete) | joined(self.extended)

@@ -75,7 +75,7 @@ def asked_call(atlas, name, method, path):
 
 def called_at(spot):
     """The generic of the call at a spot, and the types of its arguments."""
-    return (spot.expression[1], tuple([part.told() for part in spot.parts()]))
+    return (spot.expression[1], tuple([part.type_name() for part in spot.parts()]))
 
 
 def takes_strange_owner(region):

@@ -13,7 +13,7 @@ def type_at(world, name, method, path):
     spot = asked_spot(atlas, name, method, path)
     if spot is None:
         raise BadValue(3)
-    return spot.told()
+    return spot.type_name()
 
 
 def type_of(world, expression):

@@ -42,7 +42,7 @@ def fault(world, name):
 def is_lawful(value):
     """Whether value is a lawful world."""
     global LAST_LAWFUL
-    # What is looked at no further may have a text that is too great to be made.
+    # The text of what is far from a world may be too great to be made.
     if not is_row_of_fives(value):
         return False
     text = repr(value)

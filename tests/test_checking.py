@@ -8,8 +8,7 @@ from callwarrant.closing import is_closed
 from callwarrant.errors import BadTree, BadValue, NoModule
 from callwarrant.reading import parse
 from callwarrant.trees import tree
-from tests.helper import ODD, Told, as_lists, lawful_world, strange_world
-from tests.second import Forest
+from tests.helper import ODD, Forest, Told, as_lists, lawful_world, strange_world
 from tests.test_closing import CLOSED_SHAPES, ROW, SHAPES
 
 HAND = """for shapes.meet shapes.Dot

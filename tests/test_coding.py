@@ -8,8 +8,9 @@ from callwarrant.errors import BadValue, NoModule, Spent, Stuck
 from callwarrant.reading import parse, parse_expression
 from callwarrant.running import run
 from callwarrant.straights import sites, straight
-from tests.helper import ODD, as_lists, is_plain, lawful_body, lawful_world, view_of
-from tests.second import Runner, Whole, has_type, outcome_of, parts_at
+from tests.helper import (
+    ODD, Runner, Whole, as_lists, has_type, is_plain, lawful_body, lawful_world, outcome_of,
+    parts_at, view_of)
 from tests.test_closing import ROW
 from tests.test_running import KIT as RUN_KIT
 from tests.test_running import YARD as RUN_YARD

@@ -4,13 +4,20 @@ import unittest
 from random import Random
 
 from callwarrant.calls import applicable, best, chain, methods_of
+from callwarrant.checking import tree_holds
 from callwarrant.closing import answers, breach, is_closed
-from callwarrant.errors import BadValue, NoBest
+from callwarrant.coding import code_of, run_codes, straight_count
+from callwarrant.errors import BadValue, InUse, NoBest
 from callwarrant.forms import is_module
+from callwarrant.links import Link
 from callwarrant.orders import above, class_names, concrete, fields_of, under
-from callwarrant.reading import parse
+from callwarrant.reading import parse, parse_expression
+from callwarrant.running import run
+from callwarrant.straights import bend, sites, straight
+from callwarrant.tables import groups, table, tells_apart
+from callwarrant.trees import tree, walk
 from callwarrant.worlds import fault, is_lawful, is_world, view
-from tests.helper import Told, as_lists, sum_of, told_measure, told_world, view_of
+from tests.helper import Told, as_lists, outcome_of, sum_of, told_measure, told_world, view_of
 
 NAMES = tuple("abcdefghijkl")
 WORDS = "ABCDEF"
@@ -200,3 +207,136 @@ class GreatViews(unittest.TestCase):
                 if len(words) > 1:
                     modules, word = self.check_breach(world, name)
                     self.assertEqual((word, len(modules)), ("many", 1))
+
+
+def sum_tree(parts):
+    """The sum of the parts, in as few levels as may be."""
+    if len(parts) == 1:
+        return parts[0]
+    half = len(parts) // 2
+    return ("add", sum_tree(parts[:half]), sum_tree(parts[half:]))
+
+
+def row_module(at):
+    """A closed module of the greatest numbers of parts; its classes are all in one row."""
+    name = NAMES[at]
+    before = NAMES[at - 1] + ".F" if at else "base.Any"
+    classes = tuple(
+        (word, "open", word == "C", (name + "." + up if up else before,), ())
+        for word, up in zip(WORDS, ("",) + tuple(WORDS)))
+    generics = tuple((one, ("base.Any",) * 3, 2, "base.Int") for one in "pqr")
+    names = [("name", one) for one in "xyz"]
+    homes = NAMES[max(0, at - 1):at + 1]
+    calls = [
+        ("call", "%s.%s" % (homes[number % len(homes)], "pqr"[number % 3]), tuple(names[number % 3:] + names[:number % 3]))
+        for number in range(11)]
+    heads = [(name + "." + one, "base.Any", ONE) for one in "pqr"]
+    heads += [("a.p", name + "." + word, ("next",)) for word in "ABCDE"]
+    methods = tuple(
+        (generic, (("x", "base.Any"), ("y", owner), ("z", "base.Any")), sum_tree(calls + [last]))
+        for generic, owner, last in heads)
+    return (name, tuple(NAMES[max(0, at - 1):at]), classes, generics, methods)
+
+
+ROW_WORLD = tuple(row_module(at) for at in range(6))
+
+
+class GreatRows(unittest.TestCase):
+
+    def test_sizes(self):
+        self.assertTrue(all(map(is_module, ROW_WORLD)))
+        self.assertIs(is_lawful(ROW_WORLD), True)
+        self.assertEqual(len(view(ROW_WORLD, "f")), 7)
+        for _, _, classes, generics, methods in ROW_WORLD:
+            self.assertEqual((len(classes), len(generics), len(methods)), (6, 3, 8))
+
+    def test_trees(self):
+        source = Random(41)
+        told = Told(ROW_WORLD)
+        for name in "af":
+            self.assertIs(is_closed(ROW_WORLD, name), True)
+            text = tree(ROW_WORLD, name)
+            self.assertIs(tree_holds(ROW_WORLD, name, text), True)
+            own = [one for one in concrete(ROW_WORLD, "base.Any") if one.startswith(name + ".")]
+            for _ in range(8):
+                generic = source.choice([one for one in told.generics if one[0] <= name])
+                classes = tuple(source.choice(own) for _ in range(3))
+                found, _ = walk(ROW_WORLD, name, text, generic, classes)
+                self.assertEqual(found, told.chain(generic, classes))
+        self.assertEqual(len(chain(ROW_WORLD, "a.p", ("f.F",) * 3)), 31)
+        self.assertEqual(sum(line.startswith("for ") for line in text.split("\n")), 18 * 5 + 3)
+
+    def test_sites_and_codes(self):
+        for name in "af":
+            found = sites(ROW_WORLD, name)
+            self.assertEqual(len(found), 88)
+            code = code_of(ROW_WORLD, name)
+            self.assertEqual(code, code_of(view_of(ROW_WORLD, name), name))
+            self.assertEqual(straight_count(code), 0)
+            for number, path, generic, classes in found[::12]:
+                self.assertIsNone(straight(ROW_WORLD, name, number, path))
+                one, other = bend(ROW_WORLD, name, number, path)
+                viewed = view_of(ROW_WORLD, name)
+                outcomes = [best(viewed + modules, generic, call) for modules, call in (one, other)]
+                self.assertNotEqual(outcomes[0], outcomes[1])
+        # With sealed classes in place of open ones all calls of own classes are straight.
+        name, uses, classes, generics, methods = ROW_WORLD[0]
+        sealed = (name, uses, tuple((told[0], "sealed") + told[2:] for told in classes), tuple(
+            (one, ("a.A",) * 3, 2, "base.Int") for one in "pqr"), tuple(
+            (generic, tuple((param, "a.A" if told == "base.Any" else told) for param, told in params), body)
+            for generic, params, body in methods if params[1][1] == "base.Any"))
+        self.assertIs(is_closed((sealed,), "a"), True)
+        code = code_of((sealed,), "a")
+        self.assertEqual(straight_count(code), 33)
+        codes = (("a", code),)
+        call = parse_expression("a.p(new a.A(), new a.B(), new a.F())")
+        for fuel in (0, 1, 50, 1000, 5000):
+            self.assertEqual(
+                outcome_of(run_codes, (sealed,), codes, call, fuel)[:2], outcome_of(run, (sealed,), call, fuel))
+
+    def test_links(self):
+        link = Link()
+        for module in ROW_WORLD:
+            link.load(module)
+        self.assertEqual(link.world(), ROW_WORLD)
+        self.assertEqual(link.choose("a.p", ("f.F", "f.F", "a.A")), ("f", 7))
+        call = parse_expression("a.p(1, new f.F(), 2)")
+        self.assertEqual(outcome_of(link.run, call, 5000), outcome_of(run, ROW_WORLD, call, 5000))
+        self.assertEqual(link.code("f"), code_of(ROW_WORLD, "f"))
+        with self.assertRaises(InUse) as caught:
+            link.unload("e")
+        self.assertEqual(caught.exception.name, "f")
+
+    def test_two_thousand_calls(self):
+        # 44 classes at one position and 45 at the other one.
+        names = NAMES[:11]
+        modules = []
+        for at, name in enumerate(names):
+            classes = tuple(
+                (word, "open", False, ("base.Any",) if (at, word) == (0, "A") else ("a.A",), ()) for word in "ABCD")
+            generics = (("g", ("a.A", "base.Any"), 1, "base.Int"),) if at == 0 else ()
+            methods = tuple(
+                ("a.g", (("x", name + "." + word), ("y", told)), last)
+                for word, told, last in (
+                    ("A", "base.Any", ("next",)), ("A", "a.B", ONE), ("B", name + ".B", ONE), ("C", "base.Int", ("next",)),
+                    ("D", "a.A", ONE)))
+            modules.append((name, ("a",) if at else (), classes, generics, methods))
+        world = tuple(modules)
+        told = Told(world)
+        outcomes = {call: told.chain("a.g", call) for call in told.calls("a.g")}
+        self.assertEqual(len(outcomes), 1980)
+        parts, cells = table(world, "a.g")
+        self.assertEqual((groups(world, "a.g", 1), groups(world, "a.g", 2)), parts)
+        self.assertEqual(len(cells), len(parts[0]) * len(parts[1]))
+        self.assertEqual([sum(map(len, part)) for part in parts], [44, 45])
+        for (one, other), outcome in cells:
+            for first in parts[0][one]:
+                for second in parts[1][other]:
+                    self.assertEqual(outcomes[first, second], outcome)
+        for part, at in zip(parts, (0, 1)):
+            for one in part:
+                self.assertIsNone(tells_apart(world, "a.g", at + 1, one[0], one[-1]))
+                if one != part[0]:
+                    call = tells_apart(world, "a.g", at + 1, one[0], part[0][0])
+                    other = call[:at] + (part[0][0],) + call[at + 1:]
+                    self.assertNotEqual(outcomes[call], outcomes[other])

@@ -12,8 +12,9 @@ from callwarrant.links import Link
 from callwarrant.reading import parse, parse_expression
 from callwarrant.running import run
 from callwarrant.worlds import fault, is_lawful, view
-from tests.helper import ODD, Told, as_lists, as_tuples, is_plain, lawful_body, lawful_world, told_module
-from tests.second import Whole, has_type, outcome_of
+from tests.helper import (
+    ODD, Told, Whole, as_lists, as_tuples, has_type, is_plain, lawful_body, lawful_world,
+    outcome_of, told_module)
 from tests.test_closing import CLOSED_SHAPES, SHAPES
 
 DOT, SHAPE = "shapes.Dot", "shapes.Shape"

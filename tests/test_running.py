@@ -7,8 +7,9 @@ from callwarrant.errors import BadValue, Spent, Stuck
 from callwarrant.reading import parse, parse_expression
 from callwarrant.running import class_of, run, shown
 from callwarrant.types import type_of
-from tests.helper import ODD, Told, as_lists, is_plain, lawful_body, lawful_world
-from tests.second import Runner, Whole, has_type, outcome_of, value_class, weight
+from tests.helper import (
+    ODD, Runner, Told, Whole, as_lists, has_type, is_plain, lawful_body, lawful_world, outcome_of,
+    value_class, weight)
 
 KIT = parse("""module kit {
   open class Tool extends base.Any { size: base.Int, part: base.Any }

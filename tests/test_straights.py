@@ -8,8 +8,9 @@ from callwarrant.errors import BadValue, NoBest, NoModule
 from callwarrant.reading import parse
 from callwarrant.straights import bend, sites, straight
 from callwarrant.worlds import is_lawful
-from tests.helper import ODD, Told, as_lists, is_plain, lawful_world, strange_world, view_of
-from tests.second import Occurring, can_occur, told_sites
+from tests.helper import (
+    ODD, Occurring, Told, as_lists, can_occur, is_plain, lawful_world, strange_world, told_sites,
+    view_of)
 from tests.test_closing import ROW
 
 KIT = parse("""module kit {

@@ -8,8 +8,7 @@ from callwarrant.calls import chain
 from callwarrant.errors import BadValue, NoBest
 from callwarrant.reading import parse
 from callwarrant.tables import groups, table, tells_apart
-from tests.helper import ODD, Told, as_lists, is_plain, lawful_world
-from tests.second import told_alike, told_outcomes
+from tests.helper import ODD, Told, as_lists, is_plain, lawful_world, told_alike, told_outcomes
 from tests.test_closing import SHAPES
 
 DOT, SHAPE = "shapes.Dot", "shapes.Shape"

@@ -10,8 +10,8 @@ from callwarrant.errors import BadValue, NoModule, NotClosed
 from callwarrant.reading import parse
 from callwarrant.trees import tree, walk
 from callwarrant.worlds import is_lawful
-from tests.helper import ODD, Told, as_lists, is_plain, lawful_world, strange_world, view_of
-from tests.second import Forest, walked
+from tests.helper import (
+    ODD, Forest, Told, as_lists, is_plain, lawful_world, strange_world, view_of, walked)
 from tests.test_checking import HAND, closed_modules
 from tests.test_closing import CLOSED_SHAPES, ROW, SHAPES
 from tests.test_greatest import paint_methods, paint_world

@@ -6,8 +6,8 @@ from random import Random
 from callwarrant.errors import BadValue, NoModule
 from callwarrant.reading import parse, parse_expression
 from callwarrant.types import type_at, type_of
-from tests.helper import ODD, Broken, Told, as_lists, lawful_body, lawful_world, sum_of
-from tests.second import Whole, body_spots
+from tests.helper import (
+    ODD, Broken, Told, Whole, as_lists, body_spots, lawful_body, lawful_world, sum_of)
 from tests.test_closing import ROW
 
 KIT = parse("""module kit {
