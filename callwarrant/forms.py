@@ -28,6 +28,8 @@ FORMS = {
     "if": ("part", "part", "part"),
     "let": ("name", "part", "part"),
 }
+# The kinds of members that are rows of parts.
+ROWS = ("values", "arguments")
 
 
 def is_module(value):
@@ -51,9 +53,15 @@ def is_expression(value):
     count = 0
     for _ in range(MOST_LEVELS):
         count = count + len(row)
-        if count > MOST_EXPRESSIONS or not all([has_form(one) for one in row]):
+        if count > MOST_EXPRESSIONS:
             return False
-        row = [part for one in row for part in parts_of(one)]
+        parts = []
+        for one in row:
+            found = form_parts(one)
+            if found is None:
+                return False
+            parts.extend(found)
+        row = parts
     return len(row) == 0
 
 
@@ -106,23 +114,30 @@ def is_named_class(value):
     return is_sequence(value, 2, 2) and is_name(value[0]) and is_class_name(value[1])
 
 
-def has_form(value):
-    """Whether value has the form of an expression, whatever its parts are."""
+def form_parts(value):
+    """The parts of what has the form of an expression, whatever they are; None of what has not."""
     if not isinstance(value, (list, tuple)) or len(value) == 0:
-        return False
+        return None
     word = value[0]
     if not isinstance(word, str) or word not in FORMS:
-        return False
+        return None
     kinds = FORMS[word]
     if len(value) != 1 + len(kinds):
-        return False
-    return all([is_member(kind, member) for kind, member in zip(kinds, value[1:])])
+        return None
+    # What parts_of tells is gathered here at once: most of what is read is bodies.
+    parts = []
+    for kind, member in zip(kinds, value[1:]):
+        if kind == "part":
+            parts.append(member)
+        elif not is_member(kind, member):
+            return None
+        elif kind in ROWS:
+            parts.extend(member)
+    return parts
 
 
 def is_member(kind, value):
-    """Whether value can be a member of this kind in an expression, whatever its parts are."""
-    if kind == "part":
-        return True
+    """Whether value can be a member of this kind in an expression, that is no part of it."""
     if kind == "number":
         return is_integer(value, 0, LARGEST)
     if kind == "name":
@@ -142,7 +157,7 @@ def parts_of(expression):
     for kind, member in zip(FORMS[expression[0]], expression[1:]):
         if kind == "part":
             parts.append(member)
-        if kind in ("values", "arguments"):
+        if kind in ROWS:
             parts.extend(member)
     return parts
 
@@ -155,7 +170,7 @@ def with_parts(expression, parts):
         if kind == "part":
             members.append(parts[at])
             at = at + 1
-        elif kind in ("values", "arguments"):
+        elif kind in ROWS:
             members.append(tuple(parts))
         else:
             members.append(member)

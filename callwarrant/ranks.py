@@ -60,7 +60,8 @@ class Ranks:
             run.append(self.methods[last].reference)
             if self.ends >> last & 1:
                 return tuple(run)
-            bits = bits & self.farther[last] & ~(1 << last)
+            # The best one is as near as all others, so next chooses from all of them.
+            bits = bits & ~(1 << last)
 
 
 def as_bits(truths):

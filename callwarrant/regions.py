@@ -59,10 +59,8 @@ class Family:
     def always_joined(self):
         """The bits that all sights have that join extended ones; all bits if there are none.
 
-        Such a sight lacks a bit if, for every due one, it can join one that lacks the bit.
+        A bit is not among them if, for every due one, an extended one has that and lacks the bit.
         """
-        if not self.extended:
-            return common([])
         bits = 0
         for due in self.due:
             bits = bits | common([one for one in self.extended if one & due])

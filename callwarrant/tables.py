@@ -90,7 +90,7 @@ def check_position(outcomes, position):
 
 def check_standing(outcomes, position, name, at):
     """Raises BadValue(at) for what is no class that can stand at the position."""
-    if not isinstance(name, str) or name not in outcomes.standing[position - 1]:
+    if name not in outcomes.standing[position - 1]:
         raise BadValue(at)
 
 

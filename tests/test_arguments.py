@@ -3,6 +3,7 @@
 import inspect
 import unittest
 from copy import deepcopy
+from unittest import mock
 
 from callwarrant import calls, checking, closing, coding, forms, links, orders, printing, reading, running
 from callwarrant import straights, tables, trees, types, worlds
@@ -319,3 +320,28 @@ class Rows(unittest.TestCase):
         self.assertIs(worlds.is_lawful(()), True)
         self.assertIs(worlds.is_lawful("()"), False)
         self.assertIs(worlds.is_lawful([]), True)
+
+    def test_a_world_is_judged_once_in_a_row_of_calls(self):
+        def ask_all():
+            for ask, _, _, rest, expected in FUNCTIONS:
+                self.assertEqual(ask(world, *rest), expected)
+
+        for world in (WORLD, as_lists(WORLD)):
+            orders.class_names(())
+            with mock.patch("callwarrant.worlds.is_world", wraps=worlds.is_world) as judged:
+                ask_all()
+                ask_all()
+            self.assertEqual(judged.call_count, 1)
+
+    def test_great_values(self):
+        # Their texts are too great to be made.
+        word = "x" * 200000
+        for value in ((word,) * 10000, ((word,) * 10000,), [[word] * 10000] * 12, (((word,) * 1000,) * 4,) * 2):
+            self.assertIs(worlds.is_lawful(value), False)
+            self.assertEqual(self.at(orders.class_names, value), 0)
+            self.assertEqual(self.at(running.run, value, ("int", 1), 1), 0)
+
+    def at(self, ask, *arguments):
+        with self.assertRaises(BadValue) as caught:
+            ask(*arguments)
+        return caught.exception.at

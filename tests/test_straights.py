@@ -144,6 +144,18 @@ class ByHand(Sites):
                 "method m.g(%s) = 1" % method, ("m.A, m.B", "m.A, m.B", "x: m.A, y: m.B", "x, y"))
             self.assertEqual(found, expected)
 
+    def test_base_any(self):
+        # It is open: a module that knows nothing else may extend it.
+        for by in (1, 2):
+            world = (parse("""module m {
+              generic g(base.Any, base.Int) by %d gives base.Int
+              method m.g(x: base.Any, n: base.Int) = m.g(x, n)
+            }""" % by),)
+            site = sites(world, "m")[0]
+            found, bent, _ = self.check_site(world, "m", Told(strange_world(world, "m")), site)
+            self.assertEqual(found, None if by == 1 else ("m", 0))
+            self.assertEqual(bent is None, by == 2)
+
     def test_where_no_call_occurs(self):
         classes = "sealed abstract class A extends base.Any { } sealed class B extends base.Any { }"
         for call in (("m.A", "m.A", "x: m.A", "x"), ("m.B, m.A", "m.B, m.A", "x: m.B, y: m.A", "x, y"),

@@ -121,6 +121,23 @@ class ByHand(Trees):
             self.assertEqual(caught.exception.at, 3)
 
 
+    def test_trees_are_small(self):
+        # Tests of the sealed class of each pair come before those of the open one, wherever it stands.
+        words = "ABCDEF"
+        one = "".join("%s class %s extends base.Any { }\n" % ("sealed open".split()[number % 2], word)
+                      for number, word in enumerate(words))
+        world = (parse("module a { %s }" % one), parse("module b { %s }" % one), parse("""module m uses a, b {
+          sealed class O extends base.Any { }
+          generic g(base.Any, m.O, base.Any) by 2 gives base.Int
+          method m.g(x: base.Any, o: m.O, y: base.Any) = 0
+          %s
+        }""" % "".join("method m.g(x: %s, o: m.O, y: %s) = 1\n" % pair for pair in (
+            ("a.A", "b.B"), ("a.C", "b.D"), ("a.E", "b.F"), ("a.B", "b.A"), ("a.D", "b.C"), ("a.F", "b.E")))))
+        text = self.check_tree(world, "m")
+        self.assertEqual(text.count("\n"), 28)
+        self.check_walks(Random(1), world, "m", text)
+
+
 class Errors(Trees):
 
     def bad(self, at, ask, *arguments):
