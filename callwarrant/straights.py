@@ -61,8 +61,9 @@ def bend(world, name, method, path):
     region = Straights(atlas).region(generic, classes)
     if region.is_empty() or only_reference(region) is not None:
         return None
-    bent = bend_by_method if takes_strange_owner(region) else bend_by_classes
-    return bent(atlas, name, atlas.generics[generic], classes)
+    if takes_strange_owner(region):
+        return bend_by_method(atlas, name, atlas.generics[generic], classes)
+    return bend_by_classes(atlas, name, atlas.generics[generic], classes)
 
 
 def asked_call(atlas, name, method, path):
@@ -86,7 +87,7 @@ def takes_strange_owner(region):
 def only_reference(region):
     """The reference of the method that all calls of a site choose in every world, or None.
 
-    A module that declares an owner class may add a method for it, that is nearer for this class.
+    Another module may add a method for each owner class that it declares.
     """
     if region.is_empty() or takes_strange_owner(region):
         return None

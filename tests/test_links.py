@@ -1,16 +1,17 @@
-"""Promises [4], [10] and [54] to [57]: links."""
+"""Promises [4], [10] to [12] and [54] to [57]: links, and runs in worlds of closed modules."""
 
 import unittest
 from random import Random
 
 from callwarrant.calls import best, chain
 from callwarrant.closing import is_closed
-from callwarrant.coding import code_of
+from callwarrant.coding import code_of, run_codes
 from callwarrant.errors import (
     BadValue, CallError, InUse, MissingUse, NoModule, NotClosed, Spent, TakenName, Unlawful)
 from callwarrant.links import Link
 from callwarrant.reading import parse, parse_expression
-from callwarrant.running import run
+from callwarrant.running import class_of, run
+from callwarrant.types import type_of
 from callwarrant.worlds import fault, is_lawful, view
 from tests.helper import (
     ODD, Told, Whole, as_lists, as_tuples, has_type, is_plain, lawful_body, lawful_world,
@@ -93,6 +94,7 @@ class Links(unittest.TestCase):
         """Checks what a link chooses and runs; the calls are those of its world."""
         world = link.world()
         told = Whole(world)
+        codes = [(name, link.code(name)) for name in link.names()]
         for generic in told.generics:
             calls = list(told.calls(generic))
             for classes in source.sample(calls, min(len(calls), 6)):
@@ -106,7 +108,10 @@ class Links(unittest.TestCase):
                 for fuel in (5000, source.randrange(40)):
                     found = outcome_of(link.run, made, fuel)
                     self.assertEqual(found, outcome_of(run, world, made, fuel))
+                    self.assertEqual(found, outcome_of(run_codes, world, codes, made, fuel)[:2])
                     self.assertNotEqual(found[0], "Stuck")
+                    if found[0] != "Spent":
+                        self.assertTrue(told.under(class_of(found[0]), type_of(world, made)))
 
 
 class Loading(Links):
