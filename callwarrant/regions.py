@@ -42,8 +42,9 @@ class Board:
 class Family:
     """The sights that the classes at a position may have.
 
-    They are the concrete ones, which have all bits that are due, at least one, and those that join
-    extended ones and have all of these bits. No extended ones are kept if there are no such.
+    They are the concrete ones, and those that join one or more of the extended ones; all of them
+    have the bits that are due, of which there is at least one. There are no extended ones if these
+    cannot be joined so.
     """
 
     def __init__(self, concrete, extended, due):
